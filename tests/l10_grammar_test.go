@@ -237,6 +237,14 @@ func TestFoundPartsShareNoMemory(t *testing.T) {
 	if impl.FormatGrammar(g) != declarations {
 		t.Errorf("the grammar became\n%s", impl.FormatGrammar(g))
 	}
+	text := "rule p s :\nput s.a of s.b of none := {1} | {2}\n"
+	g = grammarFrom(t, text)
+	r, _ = impl.FindRule(g, "p")
+	r.Contributions[0].Target.Args[0] = self(0)
+	r.Contributions[0].Value.Args[1] = setOf(0)
+	if impl.FormatGrammar(g) != text {
+		t.Errorf("the grammar became\n%s", impl.FormatGrammar(g))
+	}
 }
 
 func TestEqualGrammar(t *testing.T) {

@@ -36,6 +36,8 @@ func TestRequiredOccurrences(t *testing.T) {
 		{g, find("q"), []impl.Occurrence{{Pos: 0, Name: "y"}}},
 		{g, impl.Rule{Left: "z", Right: []string{"s"}}, []impl.Occurrence{{Pos: 1, Name: "i"}}}, {g, impl.Rule{Left: "z"}, nil}, {g, impl.Rule{}, nil}, {impl.Grammar{}, find("p"), nil},
 		{g, impl.Rule{Left: "z", Right: []string{"z", "z", "z", "z", "t"}}, []impl.Occurrence{{Pos: 5, Name: "x"}, {Pos: 5, Name: "z"}}},
+		// A symbol without a name is not that of a position after the last one.
+		{impl.Grammar{Symbols: []impl.Symbol{{Attributes: []impl.Attribute{{Name: "i", Type: 1, Mode: impl.ModeInherited}}}}}, impl.Rule{Left: "z", Right: []string{"z"}}, nil},
 		// The first one of several symbols with the same name counts.
 		{impl.Grammar{Symbols: append([]impl.Symbol{{Name: "s", Attributes: []impl.Attribute{plain("k")}}}, g.Symbols...)}, impl.Rule{Left: "s"}, []impl.Occurrence{{Pos: 0, Name: "k"}}},
 	}
