@@ -356,4 +356,11 @@ func TestExprInsideItself(t *testing.T) {
 	if impl.HasRemote(e) || !impl.EqualExpr(e, e) || impl.CountExpr(e) < 1 || impl.DepthOfExpr(e) < 1 {
 		t.Error("an endless expression")
 	}
+	r := impl.Rule{Name: "p", Left: "s", Equations: []impl.Equation{equation(0, "a", e)}}
+	if _, ok := impl.FindEquation(r, impl.Occurrence{Name: "a"}); !ok || impl.IsValidRule(r) {
+		t.Error("a rule with an endless expression")
+	}
+	if kind := impl.TypeOfExpr(impl.Grammar{}, r, e); kind != 0 {
+		t.Errorf("an endless expression has the type %d", kind)
+	}
 }
