@@ -12,19 +12,21 @@ import (
 type style struct {
 	types                       []int
 	remote, collected, circular bool
+	// weight is the number of times that a use of an attribute stands among the leaves of expressions.
+	weight int
 }
 
 // numbers is the style of grammars that have only numbers, so that most expressions use attributes.
 func numbers() style {
-	return style{types: []int{impl.TypeNumber}}
+	return style{types: []int{impl.TypeNumber}, weight: 8}
 }
 
 func anyTypes() style {
-	return style{types: allTypes()}
+	return style{types: allTypes(), weight: 2}
 }
 
 func anything() style {
-	return style{types: allTypes(), remote: true, collected: true, circular: true}
+	return style{types: allTypes(), remote: true, collected: true, circular: true, weight: 2}
 }
 
 // maker makes a random grammar that is accepted.
@@ -37,7 +39,7 @@ type maker struct {
 func randomGrammar(t *testing.T, random *rand.Rand, s style) impl.Grammar {
 	t.Helper()
 	m := &maker{random: random, style: s}
-	for _, name := range []string{"s", "t", "u"}[:1+random.Intn(3)] {
+	for _, name := range []string{"s", "t", "u"}[:1+max(random.Intn(3), random.Intn(3))] {
 		m.g.Symbols = append(m.g.Symbols, impl.Symbol{Name: name, Attributes: m.attributes(name == "s")})
 	}
 	names := []string{"a", "b", "c", "d", "e", "f", "g", "h"}
@@ -56,7 +58,7 @@ func randomGrammar(t *testing.T, random *rand.Rand, s style) impl.Grammar {
 
 func (m *maker) attributes(start bool) []impl.Attribute {
 	var list []impl.Attribute
-	for _, name := range []string{"p", "q", "x", "y"}[:m.random.Intn(5)] {
+	for _, name := range []string{"p", "q", "x", "y"}[:max(m.random.Intn(5), m.random.Intn(5))] {
 		a := impl.Attribute{Name: name, Type: m.style.types[m.random.Intn(len(m.style.types))], Mode: 1 + m.random.Intn(2)}
 		if start {
 			a.Mode = impl.ModeSynthesized
@@ -141,14 +143,14 @@ func (m *maker) typedExpr(r impl.Rule, kind int, depth int) impl.Expr {
 	return ifThen(m.typedExpr(r, impl.TypeBool, depth-1), m.typedExpr(r, kind, depth-1), m.typedExpr(r, kind, depth-1))
 }
 
-// leaves returns the expressions of one node; uses of attributes more than once.
+// leaves returns the expressions of one node.
 func (m *maker) leaves(r impl.Rule, kind int) []impl.Expr {
 	var list []impl.Expr
 	for pos := range len(r.Right) + 1 {
 		s, _ := impl.FindSymbol(m.g, impl.SymbolAt(r, pos))
 		for _, a := range s.Attributes {
 			if a.Type == kind && impl.MayUse(m.g, r, impl.Occurrence{Pos: pos, Name: a.Name}) {
-				list = append(list, attr(pos, a.Name), attr(pos, a.Name))
+				list = append(list, slices.Repeat([]impl.Expr{attr(pos, a.Name)}, m.style.weight)...)
 			}
 		}
 		if kind == impl.TypeNode {
