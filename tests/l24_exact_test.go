@@ -126,7 +126,7 @@ func someTrees(g impl.Grammar, symbol string, n int) []impl.Tree {
 func TestRandomSummaries(t *testing.T) {
 	random := rand.New(rand.NewSource(24))
 	circular, several := 0, 0
-	for _, g := range randomGrammars(t, random, 60, numbers(), numbers(), anything()) {
+	for _, g := range randomGrammars(t, random, 40, numbers(), numbers(), anything()) {
 		all, ok := impl.Summaries(g)
 		want := wantSummaries(g)
 		if !ok || len(all) != len(g.Symbols) {
@@ -158,7 +158,7 @@ func TestRandomSummaries(t *testing.T) {
 		}
 		treesAgree(t, g, want, loop)
 	}
-	if circular < 15 || several < 15 {
+	if circular < 10 || several < 15 {
 		t.Errorf("%d grammars are circular, %d symbols have several summaries", circular, several)
 	}
 }
