@@ -21,21 +21,42 @@ func grow(rule string, literal int, children ...branch) branch {
 	return branch{rule, literal, children}
 }
 
-// treeFrom lists the nodes of b with Ids from first on.
-func treeFrom(b branch, first int) impl.Tree {
-	var t impl.Tree
-	var list func(b branch, parent int, place int) int
-	list = func(b branch, parent int, place int) int {
-		i := len(t.Nodes)
-		t.Nodes = append(t.Nodes, impl.Node{Id: first + i, Parent: parent, Place: place, Literal: b.literal, Rule: b.rule})
-		for k, c := range b.children {
+// member is a node with an Id that points to its children, so that edits need no indices.
+type member struct {
+	id, literal int
+	rule        string
+	children    []*member
+}
+
+// members returns b with Ids from *next on in preorder.
+func (b branch) members(next *int) *member {
+	m := &member{id: *next, literal: b.literal, rule: b.rule}
+	*next++
+	for _, c := range b.children {
+		m.children = append(m.children, c.members(next))
+	}
+	return m
+}
+
+func (m *member) tree() impl.Tree {
+	var x impl.Tree
+	var list func(m *member, parent int, place int) int
+	list = func(m *member, parent int, place int) int {
+		i := len(x.Nodes)
+		x.Nodes = append(x.Nodes, impl.Node{Id: m.id, Parent: parent, Place: place, Literal: m.literal, Rule: m.rule})
+		for k, c := range m.children {
 			child := list(c, i, k+1)
-			t.Nodes[i].Children = append(t.Nodes[i].Children, child)
+			x.Nodes[i].Children = append(x.Nodes[i].Children, child)
 		}
 		return i
 	}
-	list(b, -1, 0)
-	return t
+	list(m, -1, 0)
+	return x
+}
+
+// treeFrom lists the nodes of b with Ids from first on.
+func treeFrom(b branch, first int) impl.Tree {
+	return b.members(&first).tree()
 }
 
 // branches returns all trees of a symbol with at most size nodes; the literals of rules with a literal are 0.

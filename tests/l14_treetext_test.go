@@ -130,6 +130,21 @@ func TestParseTreeFails(t *testing.T) {
 	}
 }
 
+func TestSizesOfParsedTrees(t *testing.T) {
+	g := grammarFrom(t, boxes)
+	if x := treeOf(t, g, deepBranch(impl.MaxTreeNodes).format(g)); len(x.Nodes) != impl.MaxTreeNodes {
+		t.Error(x)
+	}
+	parseTreeFails(t, g, deepBranch(impl.MaxTreeNodes+2).format(g), 1)
+	h := grammarOf(t, "symbol s", "rule p s : s", "rule q s :")
+	for n := 1; n <= impl.MaxTreeNodes+3; n++ {
+		s := strings.Repeat("(p ", n-1) + "(q)" + strings.Repeat(")", n-1)
+		if _, ok := impl.ParseTree(h, s, 1); ok != (n <= impl.MaxTreeNodes) {
+			t.Errorf("a tree with %d nodes: %v", n, ok)
+		}
+	}
+}
+
 func TestIdsOfParsedTrees(t *testing.T) {
 	g := grammarFrom(t, boxes)
 	const s = "(row (box 1) (box 2))"

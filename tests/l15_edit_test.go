@@ -9,13 +9,6 @@ import (
 	"loop.example/g00512/impl"
 )
 
-// member is a node that points to its children, so that edits need no indices.
-type member struct {
-	id, literal int
-	rule        string
-	children    []*member
-}
-
 func memberOf(x impl.Tree, i int) *member {
 	n := x.Nodes[i]
 	m := &member{id: n.Id, literal: n.Literal, rule: n.Rule}
@@ -23,22 +16,6 @@ func memberOf(x impl.Tree, i int) *member {
 		m.children = append(m.children, memberOf(x, c))
 	}
 	return m
-}
-
-func (m *member) tree() impl.Tree {
-	var x impl.Tree
-	var list func(m *member, parent int, place int) int
-	list = func(m *member, parent int, place int) int {
-		i := len(x.Nodes)
-		x.Nodes = append(x.Nodes, impl.Node{Id: m.id, Parent: parent, Place: place, Literal: m.literal, Rule: m.rule})
-		for k, c := range m.children {
-			child := list(c, i, k+1)
-			x.Nodes[i].Children = append(x.Nodes[i].Children, child)
-		}
-		return i
-	}
-	list(m, -1, 0)
-	return x
 }
 
 func (m *member) all() []*member {
