@@ -9,10 +9,17 @@ import (
 	"loop.example/g00512/impl"
 )
 
+// computer evaluates the equations of instances; it leaves the reading to others.
+type computer struct {
+	g        impl.Grammar
+	x        impl.Tree
+	read     func(y impl.Instance) int
+	symbolOf func(id int) string
+}
+
 // reader evaluates instances on demand; open are those being computed, reads has what each one reads.
 type reader struct {
-	g      impl.Grammar
-	x      impl.Tree
+	computer
 	values map[impl.Instance]int
 	open   []impl.Instance
 	reads  map[impl.Instance][]impl.Instance
@@ -20,10 +27,12 @@ type reader struct {
 }
 
 func newReader(g impl.Grammar, x impl.Tree) *reader {
-	return &reader{g: g, x: x, values: map[impl.Instance]int{}, reads: map[impl.Instance][]impl.Instance{}}
+	r := &reader{values: map[impl.Instance]int{}, reads: map[impl.Instance][]impl.Instance{}}
+	r.computer = computer{g, x, r.readOnce, func(id int) string { return impl.SymbolOfNode(g, x, impl.NodeIndex(x, id)) }}
+	return r
 }
 
-func (r *reader) read(y impl.Instance) int {
+func (r *reader) readOnce(y impl.Instance) int {
 	if len(r.open) > 0 {
 		user := r.open[len(r.open)-1]
 		r.reads[user] = append(r.reads[user], y)
@@ -44,7 +53,7 @@ func (r *reader) read(y impl.Instance) int {
 	return v
 }
 
-func (r *reader) compute(y impl.Instance) int {
+func (r *computer) compute(y impl.Instance) int {
 	i := slices.IndexFunc(r.x.Nodes, func(n impl.Node) bool { return n.Id == y.Node })
 	n := r.x.Nodes[i]
 	rule, _ := impl.FindRule(r.g, n.Rule)
@@ -73,7 +82,7 @@ func (r *reader) compute(y impl.Instance) int {
 	return r.eval(n.Parent, e)
 }
 
-func (r *reader) eval(i int, e impl.Expr) int {
+func (r *computer) eval(i int, e impl.Expr) int {
 	n := r.x.Nodes[i]
 	id := func(pos int) int {
 		if pos == 0 {
@@ -99,8 +108,7 @@ func (r *reader) eval(i int, e impl.Expr) int {
 		return r.eval(i, e.Args[2])
 	case impl.ExprRemote:
 		to := r.eval(i, e.Args[0])
-		k := impl.NodeIndex(r.x, to)
-		if k < 0 || impl.SymbolOfNode(r.g, r.x, k) != e.Symbol {
+		if r.symbolOf(to) != e.Symbol {
 			return 0
 		}
 		return r.read(at(to, e.Name))
