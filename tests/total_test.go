@@ -4,12 +4,13 @@ import (
 	"math"
 	"math/rand"
 	"reflect"
+	"strings"
 	"testing"
 
 	"loop.example/g00512/impl"
 )
 
-// listed has the functions of the chapters that are implemented.
+// listed has the functions of all chapters.
 func listed() []any {
 	return []any{
 		impl.FormatInt, impl.ParseNumber, impl.ParseInt, impl.SplitByte, impl.Join,
@@ -31,6 +32,13 @@ func listed() []any {
 		impl.PlainAttributes, impl.OccurrencesOf, impl.OccurrenceIndex, impl.LocalRelation, impl.PositionIndices,
 		impl.ComposeRule, impl.SummaryOf, impl.Summaries, impl.IsCircular, impl.SummaryTree, impl.CircularTree,
 		impl.UnionSummaries, impl.CircularRules, impl.IsAbsolutelyAcyclic, impl.InducedRelations, impl.PhasesOf, impl.SymbolPhases,
+		impl.BuildPlan, impl.StepsOf, impl.FormatStep, impl.CheckRulePlan, impl.CheckPlan, impl.CountSteps, impl.TracePlan, impl.RunPlan,
+		impl.LastUse, impl.AssignSlots, impl.CheckSlots, impl.RunSlots, impl.UsesAny, impl.IsMonotone, impl.CircularOccurrences, impl.IsWellFormed,
+		impl.Components, impl.IsCyclicComponent, impl.FixpointRun, impl.IsFixpoint, impl.IsBelow,
+		impl.HasCircular, impl.EvaluateTree, impl.ValueOf, impl.ShowValues, impl.SourceOf, impl.SameSource, impl.FindEntry, impl.MemoValues,
+		impl.UpdateMemo, impl.FreshMemo, impl.SameResults, impl.EqualMemo, impl.IsJustified, impl.UnjustifiedOf, impl.ChangedValues, impl.AffectedBy,
+		impl.IsValidStore, impl.InternTree, impl.ExpandCell, impl.SharedSize, impl.SliceOf, impl.SliceOwners, impl.ExplainValue, impl.IsIndependent,
+		impl.ExampleGrammar, impl.ExampleTree, impl.RunExample, impl.EqualSession, impl.NewSession, impl.EditName, impl.ExecuteLine, impl.RunSession,
 	}
 }
 
@@ -56,9 +64,21 @@ func newChaos(t *testing.T, random *rand.Rand) *chaos {
 			c.spoil(reflect.ValueOf(&c.x).Elem())
 		}
 	}
-	summaries, _ := impl.Summaries(c.g)
-	c.sources = []any{c.g, c.x, impl.Instances(c.g, c.x), summaries}
+	c.addSources()
 	return c
+}
+
+func (c *chaos) addSources() {
+	summaries, _ := impl.Summaries(c.g)
+	phases, _ := impl.SymbolPhases(c.g)
+	plans, _ := impl.BuildPlan(c.g)
+	trace, _ := impl.TracePlan(c.g, plans, c.x)
+	cells, _ := impl.AssignSlots(trace, nil)
+	values, _ := impl.EvaluateTree(c.g, c.x)
+	memo, _ := impl.FreshMemo(c.g, c.x)
+	store, _ := impl.InternTree(impl.Store{}, c.x, 0)
+	c.sources = []any{c.g, c.x, impl.Instances(c.g, c.x), summaries, phases, plans, trace, cells, values, memo, store, impl.InputTable(c.g, c.x)}
+	c.sources = append(c.sources, impl.Session{Grammar: c.g, Tree: c.x, Memo: memo, Next: 1 + c.random.Intn(1000)})
 }
 
 func (c *chaos) number() int {
@@ -67,6 +87,9 @@ func (c *chaos) number() int {
 
 func (c *chaos) text() string {
 	list := []string{"", "p", "q", "s", "t", "u", "width", "room", "a b", "ninechars", "lit", "\xff", "(", "a:syn:num", "1", "-5", "$1.p + 1", impl.FormatTree(c.g, c.x), impl.FormatGrammar(c.g), "symbol s p:syn:num"}
+	if c.random.Intn(3) == 0 {
+		list = []string{"load 1", "load 2\nupdate", "load 3\nset 3 5\nupdate\nvalues", "set 1 2", "swap 2 3", "update", "values", "show", "plan a", "value 1 p", "why 1 x", "check", "circular", "what", "tree " + impl.FormatTree(c.g, c.x), "replace 1 " + impl.FormatTree(c.g, c.x), strings.Repeat("\n", 40)}
+	}
 	return list[c.random.Intn(len(list))]
 }
 
@@ -273,6 +296,37 @@ func TestFunctionsAreTotal(t *testing.T) {
 					}
 				}
 			}
+		}
+	}
+}
+
+// TestEndlessExpressions: a slice that is the Args of its own element has no end, but the functions do.
+func TestEndlessExpressions(t *testing.T) {
+	args := []impl.Expr{{Kind: impl.ExprOp, N: impl.OpUnion}, attr(0, "a")}
+	args[0].Args = args
+	e := impl.Expr{Kind: impl.ExprOp, N: impl.OpUnion, Args: args}
+	if list := []impl.Occurrence{occurrence(0, "a")}; !impl.UsesAny(e, list) || impl.UsesAny(e, nil) || !impl.IsMonotone(e, nil) {
+		t.Error("an endless expression")
+	}
+	g := grammarOf(t, "symbol s a:syn:set", "rule p s :", "eq $0.a := {}")
+	x := treeOf(t, g, "(p)")
+	g.Rules[0].Equations[0].Expr = e
+	y := at(1, "a")
+	trace := []impl.TraceStep{{At: y}}
+	if v, ok := impl.RunSlots(g, x, trace, []int{0}, []impl.Instance{y}); !ok || !reflect.DeepEqual(v, []int{0}) {
+		t.Errorf("RunSlots = %v, %v", v, ok)
+	}
+	phases := [][]impl.Phase{{{Synthesized: []string{"a"}}}}
+	if impl.CheckRulePlan(g, phases, g.Rules[0], []impl.Step{stepEval(0, "a"), stepLeave(1)}) {
+		t.Error("a uses itself")
+	}
+	if entry := impl.SourceOf(g, x, y); entry.Owner != 1 || entry.Rule != "p" {
+		t.Errorf("SourceOf = %v", entry)
+	}
+	s := impl.Session{Grammar: g, Tree: x, Next: 2}
+	for line, want := range map[string]string{"check": "1 0", "values": "no", "update": "no", "plan p": "no", "set 1 1": "bad", "show": "(p)", "hm": "what"} {
+		if _, output := impl.ExecuteLine(s, line); output != want {
+			t.Errorf("%q: %s; want %s", line, output, want)
 		}
 	}
 }
