@@ -195,75 +195,98 @@ func TestRandomWork(t *testing.T) {
 	}
 }
 
+// changedMemo returns a memo with another entry of an instance.
+func changedMemo(m impl.Memo, y impl.Instance, change func(e *impl.Entry)) impl.Memo {
+	var c impl.Memo
+	for _, e := range m.Entries {
+		e.Reads, e.Ids = slices.Clone(e.Reads), slices.Clone(e.Ids)
+		if e.At == y {
+			change(&e)
+		}
+		c.Entries = append(c.Entries, e)
+	}
+	return c
+}
+
+func withoutEntry(m impl.Memo, y impl.Instance) impl.Memo {
+	return impl.Memo{Entries: slices.DeleteFunc(slices.Clone(m.Entries), func(e impl.Entry) bool { return e.At == y })}
+}
+
+// judge judges evaluations of trees of one grammar.
+type judge struct {
+	g impl.Grammar
+}
+
+func (j judge) is(t *testing.T, want bool, what string, x impl.Tree, old impl.Memo, now impl.Memo, y impl.Instance) {
+	t.Helper()
+	if got := impl.IsJustified(j.g, x, old, now, y); got != want {
+		t.Errorf("%s: IsJustified(%v) = %v", what, y, got)
+	}
+}
+
 func TestIsJustified(t *testing.T) {
-	g := grammarFrom(t, declarations)
-	x := treeOf(t, g, exampleTrees()[0])
-	m, _ := impl.FreshMemo(g, x)
+	j := judge{grammarFrom(t, declarations)}
+	x := treeOf(t, j.g, exampleTrees()[0])
+	m, _ := impl.FreshMemo(j.g, x)
 	use := at(4, "errs")
-	is := func(want bool, what string, x impl.Tree, old impl.Memo, now impl.Memo, y impl.Instance) {
+	for _, y := range impl.Instances(j.g, x) {
+		j.is(t, false, "nothing is changed", x, m, m, y)
+		j.is(t, true, "no memo", x, impl.Memo{}, m, y)
+		j.is(t, true, "no entry", x, withoutEntry(m, y), m, y)
+		j.is(t, false, "no entry now", x, m, withoutEntry(m, y), y)
+	}
+	source := func(want bool, what string, change func(e *impl.Entry)) {
 		t.Helper()
-		if got := impl.IsJustified(g, x, old, now, y); got != want {
-			t.Errorf("%s: IsJustified(%v) = %v", what, y, got)
-		}
+		j.is(t, want, what, x, changedMemo(m, use, change), m, use)
 	}
-	// changed returns the memo with another entry of use, or of what it reads.
-	changed := func(y impl.Instance, change func(e *impl.Entry)) impl.Memo {
-		var c impl.Memo
-		for _, e := range m.Entries {
-			e.Reads, e.Ids = slices.Clone(e.Reads), slices.Clone(e.Ids)
-			if e.At == y {
-				change(&e)
-			}
-			c.Entries = append(c.Entries, e)
-		}
-		return c
-	}
-	without := func(y impl.Instance) impl.Memo {
-		c := changed(y, func(e *impl.Entry) {})
-		c.Entries = slices.DeleteFunc(c.Entries, func(e impl.Entry) bool { return e.At == y })
-		return c
-	}
-	for _, y := range impl.Instances(g, x) {
-		is(false, "nothing is changed", x, m, m, y)
-		is(true, "no memo", x, impl.Memo{}, m, y)
-		is(true, "no entry", x, without(y), m, y)
-		is(false, "no entry now", x, m, without(y), y)
-	}
-	is(false, "another value", x, changed(use, func(e *impl.Entry) { e.Value = 5 }), m, use)
-	is(false, "another value now", x, m, changed(use, func(e *impl.Entry) { e.Value = 5 }), use)
-	is(true, "another literal", x, changed(use, func(e *impl.Entry) { e.Literal = 5 }), m, use)
-	is(true, "another owner", x, changed(use, func(e *impl.Entry) { e.Owner = 5 }), m, use)
-	is(true, "another rule", x, changed(use, func(e *impl.Entry) { e.Rule = "decl" }), m, use)
-	is(true, "other Ids", x, changed(use, func(e *impl.Entry) { e.Ids = nil }), m, use)
-	is(true, "a shape", x, changed(use, func(e *impl.Entry) { e.Shape = []int{1} }), m, use)
-	is(false, "no readings", x, changed(use, func(e *impl.Entry) { e.Reads = nil }), m, use)
-	is(true, "a reading of another value", x, changed(use, func(e *impl.Entry) { e.Reads[2].Value = 7 }), m, use)
-	is(true, "a reading of what does not exist", x, changed(use, func(e *impl.Entry) { e.Reads[0].At.Node = 40 }), m, use)
-	is(true, "a value that was read is another one now", x, m, changed(at(1, "decls"), func(e *impl.Entry) { e.Value = 9 }), use)
-	is(true, "what was read first is another one now", x, m, changed(at(4, "env"), func(e *impl.Entry) { e.Value = 2 }), use)
-	is(true, "what was read has no entry now", x, m, without(at(1, "decls")), use)
-	is(false, "what was not read", x, m, without(at(5, "env")), use)
-	// Readings of symbols are compared with the tree, not with the memos.
-	is(true, "another symbol", x, changed(use, func(e *impl.Entry) { e.Reads[1].Symbol = "t" }), m, use)
-	is(true, "no symbol", x, changed(use, func(e *impl.Entry) { e.Reads[1].Symbol = "" }), m, use)
-	is(true, "a symbol of no node", x, changed(use, func(e *impl.Entry) { e.Reads[1].At.Node = 40 }), m, use)
-	none := changed(use, func(e *impl.Entry) { e.Reads[1] = symbolReading(40, "") })
-	is(false, "no symbol of no node", x, none, m, use)
-	named := impl.Memo{Entries: append(slices.Clone(m.Entries), impl.Entry{At: at(1, ""), Value: 3})}
-	is(false, "an entry without a name", x, m, named, use)
+	source(false, "another value", func(e *impl.Entry) { e.Value = 5 })
+	source(true, "another literal", func(e *impl.Entry) { e.Literal = 5 })
+	source(true, "another owner", func(e *impl.Entry) { e.Owner = 5 })
+	source(true, "another rule", func(e *impl.Entry) { e.Rule = "decl" })
+	source(true, "other Ids", func(e *impl.Entry) { e.Ids = nil })
+	source(true, "a shape", func(e *impl.Entry) { e.Shape = []int{1} })
 	// The tree decides about the source and the symbols; the rest of it does not matter.
 	y := cloneTree(x)
 	y.Nodes[3].Literal = 9
-	is(true, "another literal in the tree", y, m, m, use)
-	is(true, "a collected instance", y, m, m, at(1, "decls"))
-	is(false, "another node", y, m, m, at(5, "errs"))
-	is(true, "no tree", impl.Tree{}, m, m, use)
-	is(true, "a subtree without the node that was read", impl.Subtree(x, 1), m, m, use)
-	is(true, "an instance that does not exist", x, m, m, at(9, "errs"))
+	j.is(t, true, "another literal in the tree", y, m, m, use)
+	j.is(t, true, "a collected instance", y, m, m, at(1, "decls"))
+	j.is(t, false, "another node", y, m, m, at(5, "errs"))
+	j.is(t, true, "no tree", impl.Tree{}, m, m, use)
+	j.is(t, true, "a subtree without the node that was read", impl.Subtree(x, 1), m, m, use)
+	j.is(t, true, "an instance that does not exist", x, m, m, at(9, "errs"))
 	strange := impl.Memo{Entries: []impl.Entry{{At: at(9, "errs")}, {At: at(9, "errs"), Owner: 3}}}
-	is(false, "an instance that does not exist has an empty source", x, strange, m, at(9, "errs"))
+	j.is(t, false, "an instance that does not exist has an empty source", x, strange, m, at(9, "errs"))
 	slices.Reverse(strange.Entries)
-	is(true, "the first entry counts", x, strange, m, at(9, "errs"))
+	j.is(t, true, "the first entry counts", x, strange, m, at(9, "errs"))
+}
+
+// TestReadingsAreJudged: values are compared with those of the new memo, symbols with those of the tree.
+func TestReadingsAreJudged(t *testing.T) {
+	j := judge{grammarFrom(t, declarations)}
+	x := treeOf(t, j.g, exampleTrees()[0])
+	m, _ := impl.FreshMemo(j.g, x)
+	use := at(4, "errs")
+	recorded := func(want bool, what string, change func(e *impl.Entry)) {
+		t.Helper()
+		j.is(t, want, what, x, changedMemo(m, use, change), m, use)
+	}
+	recorded(false, "no readings", func(e *impl.Entry) { e.Reads = nil })
+	recorded(true, "a reading of another value", func(e *impl.Entry) { e.Reads[2].Value = 7 })
+	recorded(true, "a reading of what does not exist", func(e *impl.Entry) { e.Reads[0].At.Node = 40 })
+	recorded(true, "another symbol", func(e *impl.Entry) { e.Reads[1].Symbol = "t" })
+	recorded(true, "no symbol", func(e *impl.Entry) { e.Reads[1].Symbol = "" })
+	recorded(true, "a symbol of no node", func(e *impl.Entry) { e.Reads[1].At.Node = 40 })
+	recorded(false, "no symbol of no node", func(e *impl.Entry) { e.Reads[1] = symbolReading(40, "") })
+	now := func(want bool, what string, now impl.Memo) {
+		t.Helper()
+		j.is(t, want, what, x, m, now, use)
+	}
+	now(false, "another value of the instance itself", changedMemo(m, use, func(e *impl.Entry) { e.Value = 5 }))
+	now(true, "a value that was read is another one", changedMemo(m, at(1, "decls"), func(e *impl.Entry) { e.Value = 9 }))
+	now(true, "what was read first is another one", changedMemo(m, at(4, "env"), func(e *impl.Entry) { e.Value = 2 }))
+	now(true, "what was read has no entry", withoutEntry(m, at(1, "decls")))
+	now(false, "what was not read has no entry", withoutEntry(m, at(5, "env")))
+	now(false, "an entry without a name", impl.Memo{Entries: append(slices.Clone(m.Entries), impl.Entry{At: at(1, ""), Value: 3})})
 }
 
 func TestUnjustifiedOf(t *testing.T) {

@@ -42,30 +42,9 @@ func numbersIn(line string, count int, text bool, parse func(string) (int, bool)
 	return list, words[len(words)-1], true
 }
 
+// wantLine executes a line with the functions of the other chapters.
 func wantLine(s impl.Session, line string) (impl.Session, string) {
 	name, _, _ := strings.Cut(line, " ")
-	outcome := func(ok bool) string {
-		if ok {
-			return "ok"
-		}
-		return "no"
-	}
-	joined := func(text string) string {
-		if text == "" {
-			return "no"
-		}
-		return strings.Join(strings.Split(strings.TrimRight(text, "\n"), "\n"), "; ")
-	}
-	edit := func(e impl.Edit) (impl.Session, string) {
-		y, code := impl.ApplyEdit(s.Grammar, s.Tree, e)
-		if code == impl.EdOk {
-			s.Tree = y
-			if e.Kind == impl.EditReplace {
-				s.Next += len(e.Tree.Nodes)
-			}
-		}
-		return s, []string{"ok", "bad", "missing", "symbol", "ids", "size", "nested", "literal"}[code]
-	}
 	counts := map[string]int{"load": 1, "tree": 0, "set": 2, "swap": 2, "replace": 1, "update": 0, "value": 1, "why": 1, "check": 0, "circular": 0, "plan": 0, "show": 0, "values": 0}
 	count, known := counts[name]
 	parse := impl.ParseNumber
@@ -77,58 +56,82 @@ func wantLine(s impl.Session, line string) (impl.Session, string) {
 	if !known || !ok || name != "tree" && name != "replace" && strings.Contains(rest, " ") {
 		return s, "what"
 	}
+	if isQuery(line) {
+		return s, wantAnswer(s, name, n, rest)
+	}
 	switch name {
 	case "load":
 		g, found := impl.ParseGrammar(impl.ExampleGrammar(n[0]))
 		x, fits := impl.ParseTree(g, impl.ExampleTree(n[0]), s.Next)
-		if found && fits {
-			s = impl.Session{Grammar: g, Tree: x, Next: s.Next + len(x.Nodes)}
-		}
-		return s, outcome(found && fits)
-	case "tree":
-		x, fits := impl.ParseTree(s.Grammar, rest, s.Next)
-		fits = fits && impl.IsValidTree(s.Grammar, x)
-		if fits {
-			s.Tree, s.Memo, s.Next = x, impl.Memo{}, s.Next+len(x.Nodes)
-		}
-		return s, outcome(fits)
-	case "set":
-		return edit(impl.Edit{Kind: impl.EditLiteral, Node: n[0], Literal: n[1]})
-	case "swap":
-		return edit(impl.Edit{Kind: impl.EditSwap, Node: n[0], Other: n[1]})
-	case "replace":
-		if x, fits := impl.ParseTree(s.Grammar, rest, s.Next); fits {
-			return edit(impl.Edit{Kind: impl.EditReplace, Node: n[0], Tree: x})
-		}
-		return s, "no"
-	case "update":
-		m, ok := impl.UpdateMemo(s.Grammar, s.Tree, s.Memo)
-		if !ok {
+		if !found || !fits {
 			return s, "no"
 		}
-		s.Memo = m
-		return s, strconv.Itoa(len(m.Evaluated))
+		return impl.Session{Grammar: g, Tree: x, Next: s.Next + len(x.Nodes)}, "ok"
+	case "tree":
+		x, fits := impl.ParseTree(s.Grammar, rest, s.Next)
+		if !fits || !impl.IsValidTree(s.Grammar, x) {
+			return s, "no"
+		}
+		return impl.Session{Grammar: s.Grammar, Tree: x, Next: s.Next + len(x.Nodes)}, "ok"
+	case "set":
+		return wantEdited(s, impl.Edit{Kind: impl.EditLiteral, Node: n[0], Literal: n[1]})
+	case "swap":
+		return wantEdited(s, impl.Edit{Kind: impl.EditSwap, Node: n[0], Other: n[1]})
+	case "replace":
+		if x, fits := impl.ParseTree(s.Grammar, rest, s.Next); fits {
+			return wantEdited(s, impl.Edit{Kind: impl.EditReplace, Node: n[0], Tree: x})
+		}
+		return s, "no"
+	}
+	m, ok := impl.UpdateMemo(s.Grammar, s.Tree, s.Memo)
+	if !ok {
+		return s, "no"
+	}
+	s.Memo = m
+	return s, strconv.Itoa(len(m.Evaluated))
+}
+
+func wantEdited(s impl.Session, e impl.Edit) (impl.Session, string) {
+	y, code := impl.ApplyEdit(s.Grammar, s.Tree, e)
+	if code == impl.EdOk {
+		s.Tree = y
+		if e.Kind == impl.EditReplace {
+			s.Next += len(e.Tree.Nodes)
+		}
+	}
+	return s, []string{"ok", "bad", "missing", "symbol", "ids", "size", "nested", "literal"}[code]
+}
+
+// wantAnswer answers a query.
+func wantAnswer(s impl.Session, name string, n []int, rest string) string {
+	joined := func(text string) string {
+		if text == "" {
+			return "no"
+		}
+		return strings.Join(strings.Split(strings.TrimRight(text, "\n"), "\n"), "; ")
+	}
+	switch name {
 	case "value":
 		v, ok := impl.ValueOf(s.Grammar, s.Tree, at(n[0], rest))
 		a, _ := impl.AttributeOf(s.Grammar, s.Tree, at(n[0], rest))
 		if !ok {
-			return s, "no"
+			return "no"
 		}
-		return s, impl.FormatTyped(v, a.Type)
+		return impl.FormatTyped(v, a.Type)
 	case "why":
-		return s, joined(impl.ExplainValue(s.Grammar, s.Tree, at(n[0], rest)))
+		return joined(impl.ExplainValue(s.Grammar, s.Tree, at(n[0], rest)))
 	case "check":
 		code, index := impl.CheckGrammar(s.Grammar)
-		return s, strconv.Itoa(code) + " " + strconv.Itoa(index)
+		return strconv.Itoa(code) + " " + strconv.Itoa(index)
 	case "circular":
-		return s, map[bool]string{true: "yes", false: "no"}[impl.IsCircular(s.Grammar)]
+		return map[bool]string{true: "yes", false: "no"}[impl.IsCircular(s.Grammar)]
 	case "plan":
 		plans, _ := impl.BuildPlan(s.Grammar)
-		return s, joined(strings.Join(formatSteps(impl.StepsOf(plans, rest)), "\n"))
+		return joined(strings.Join(formatSteps(impl.StepsOf(plans, rest)), "\n"))
 	case "show":
-		return s, joined(impl.FormatTree(s.Grammar, s.Tree))
+		return joined(impl.FormatTree(s.Grammar, s.Tree))
 	}
-	return s, joined(impl.ShowValues(s.Grammar, s.Tree))
+	return joined(impl.ShowValues(s.Grammar, s.Tree))
 }
 
 // isQuery: the line changes nothing, whatever it is.
