@@ -48,8 +48,8 @@ func attempts(g impl.Grammar, phases [][]impl.Phase, r impl.Rule, done []impl.St
 		return list
 	}
 	for _, o := range impl.RequiredOccurrences(g, r) {
-		e, _ := impl.FindEquation(r, o)
-		ready := !known[o]
+		e, defined := impl.FindEquation(r, o)
+		ready := defined && !known[o]
 		for _, u := range impl.AttributeUses(e) {
 			ready = ready && known[u]
 		}
@@ -222,7 +222,7 @@ func checkIsRight(t *testing.T, g impl.Grammar, phases [][]impl.Phase, r impl.Ru
 // TestRandomChecks is promise 29, also for plans that are changed.
 func TestRandomChecks(t *testing.T) {
 	random := rand.New(rand.NewSource(29))
-	changed, accepted, other := 0, 0, 0
+	changed, accepted, other, incomplete := 0, 0, 0, 0
 	for _, g := range plannable(t, random, 200) {
 		phases, _ := impl.SymbolPhases(g)
 		plans, ok := impl.BuildPlan(g)
@@ -258,10 +258,19 @@ func TestRandomChecks(t *testing.T) {
 				checkIsRight(t, g, wrong, r, shuffled)
 				checkIsRight(t, g, wrong, r, anyPlan(random, g, append(wrong, phases[len(wrong):]...), r))
 			}
+			for k, q := range r.Equations {
+				lacking := r
+				lacking.Equations = slices.Delete(slices.Clone(r.Equations), k, k+1)
+				if checkIsRight(t, g, phases, lacking, shuffled) {
+					t.Fatalf("%s has no equation for %v: %v", r.Name, q.At, formatSteps(shuffled))
+				}
+				checkIsRight(t, g, phases, lacking, anyPlan(random, g, phases, lacking))
+				incomplete++
+			}
 		}
 	}
-	if accepted < 50 || accepted > changed/2 || other < 50 {
-		t.Errorf("%d of %d changed plans are accepted; %d plans in another order", accepted, changed, other)
+	if accepted < 50 || accepted > changed/2 || other < 50 || incomplete < 50 {
+		t.Errorf("%d of %d changed plans are accepted; %d plans in another order; %d rules lack an equation", accepted, changed, other, incomplete)
 	}
 }
 
@@ -410,6 +419,38 @@ func TestOtherPhases(t *testing.T) {
 	c.r.Equations = []impl.Equation{equation(0, "v", number(1))}
 	c.is(t, true, "a child without phases", stepEval(0, "v"), stepLeave(1))
 	c.is(t, false, "a visit of a child without phases", stepEval(0, "v"), stepVisit(1, 1), stepLeave(1))
+}
+
+// TestEvaluationNeedsAnEquation: in a grammar that is not accepted, a rule may lack the equation of an occurrence that it
+// must define.
+func TestEvaluationNeedsAnEquation(t *testing.T) {
+	g := grammarOf(t, "symbol s v:syn:num", "symbol t a:inh:num x:syn:num", "rule p s : t", "rule q t :")
+	phases := [][]impl.Phase{{{Synthesized: []string{"v"}}}, {{Inherited: []string{"a"}, Synthesized: []string{"x"}}}}
+	plan := func(want bool, what string, rule string, steps []impl.Step, equations ...impl.Equation) {
+		t.Helper()
+		r := ruleOf(t, g, rule)
+		r.Equations = equations
+		ruleChecker{g, phases, r}.is(t, want, what, steps...)
+	}
+	x := []impl.Step{stepEval(0, "x"), stepLeave(1)}
+	plan(true, "the equation of x", "q", x, equation(0, "x", attr(0, "a")))
+	plan(true, "an equation that uses nothing", "q", x, equation(0, "x", number(1)))
+	plan(true, "an equation without a valid expression", "q", x, equation(0, "x", impl.Expr{}))
+	plan(false, "no equations", "q", x)
+	plan(false, "an equation of another attribute", "q", x, equation(0, "v", number(1)))
+	plan(false, "an equation at another position", "q", x, equation(1, "x", number(1)))
+	plan(false, "without the equation, x is still required", "q", x[1:])
+	plan(false, "the first equation of x counts", "q", x, equation(0, "x", attr(1, "x")), equation(0, "x", number(1)))
+	all := []impl.Step{stepEval(1, "a"), stepVisit(1, 1), stepEval(0, "v"), stepLeave(1)}
+	a, v := equation(1, "a", number(1)), equation(0, "v", attr(1, "x"))
+	plan(true, "the equations of a and v", "p", all, a, v)
+	plan(false, "no equation of a", "p", all, v)
+	plan(false, "no equation of v", "p", all, a)
+	plan(false, "neither of them", "p", all)
+	// What becomes known without an evaluation needs no equation.
+	phases[1] = []impl.Phase{{Inherited: []string{"a", "x"}, Synthesized: []string{"x"}}}
+	plan(true, "x is known from the beginning", "q", x[1:])
+	plan(false, "x is known, and evaluated", "q", x)
 }
 
 func TestCheckPlan(t *testing.T) {
